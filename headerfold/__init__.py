@@ -1,0 +1,1 @@
+"""Headerfold: mail headers that are read and folded."""
