@@ -23,6 +23,17 @@ def is_coding(thing):
     return isinstance(thing, str) and thing in CODINGS
 
 
+def check_text(charset, text):
+    """Raises the error that is due if this is no text, or has a code that is too large."""
+    if not isinstance(text, Text):
+        raise BadText(text)
+    # The other charsets have room for all codes.
+    if charset == "latin":
+        for place, code in enumerate(text.codes):
+            if code > 255:
+                raise BadCode(place)
+
+
 def payload_of(coding, octets):
     """The payload that is written for a tuple of octets."""
     if not is_coding(coding):
@@ -49,12 +60,9 @@ def octets_for(charset, text):
     """The tuple of the octets that a text has in a charset."""
     if not is_charset(charset):
         raise BadCharset(charset)
-    if not isinstance(text, Text):
-        raise BadText(text)
+    check_text(charset, text)
     octets = []
-    for place, code in enumerate(text.codes):
-        if charset == "latin" and code > 255:
-            raise BadCode(place)
+    for code in text.codes:
         octets.extend(_row_of(charset, code))
     return tuple(octets)
 

@@ -5,16 +5,21 @@ from headerfold.errors import BadBody
 MARKS = " !\"#$&'()*+,-./0123456789:;<=>?@ABCDEFGHIJKLMNOPQRSTUVWXYZ[\\]^_`abcdefghijklmnopqrstuvwxyz{|}~"
 LETTERS = "ABCDEFGHIJKLMNOPQRSTUVWXYZabcdefghijklmnopqrstuvwxyz"
 LETTERS_AND_DIGITS = "ABCDEFGHIJKLMNOPQRSTUVWXYZabcdefghijklmnopqrstuvwxyz0123456789"
+NOT_IN_ATOMS = " ()<>,;:@\""
 
 # The percent sign has this code; it is no mark.
 _MISSING_CODE = 37
 _LABEL_LIMIT = 20
-_NOT_IN_ATOMS = " ()<>,;:@\""
+
+
+def is_number(thing):
+    """Whether this is an integer; a bool is none."""
+    return isinstance(thing, int) and not isinstance(thing, bool)
 
 
 def is_between(thing, low, high):
-    """Whether this is an integer from low to high; a bool is none."""
-    return isinstance(thing, int) and not isinstance(thing, bool) and low <= thing <= high
+    """Whether this is an integer from low to high."""
+    return is_number(thing) and low <= thing <= high
 
 
 def consists_of(thing, marks):
@@ -49,7 +54,7 @@ def is_label(thing):
 
 def is_atom(thing):
     """Whether this is a body that is not empty and has none of the marks that part tokens."""
-    return is_body(thing) and thing != "" and not any([mark in _NOT_IN_ATOMS for mark in thing])
+    return is_body(thing) and thing != "" and not any([mark in NOT_IN_ATOMS for mark in thing])
 
 
 def mark_of(code):

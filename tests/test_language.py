@@ -86,6 +86,25 @@ class Modules(unittest.TestCase):
                         self.assertIn(one.name, names, file)
 
 
+class Names(unittest.TestCase):
+    def functions(self):
+        return [node for _, node in nodes() if isinstance(node, ast.FunctionDef)]
+
+    def test_generators_have_names_of_their_own(self):
+        names = [node.name for node in self.functions()]
+        for node in self.functions():
+            if any(isinstance(one, (ast.Yield, ast.YieldFrom)) for one in ast.walk(node)):
+                self.assertEqual(names.count(node.name), 1, node.name)
+
+    def test_no_method_has_the_name_of_an_attribute(self):
+        attributes = {node.attr for _, node in nodes() if isinstance(node, ast.Attribute)
+                      and isinstance(node.ctx, ast.Store)}
+        for _, node in nodes():
+            if isinstance(node, ast.ClassDef):
+                methods = {one.name for one in node.body if isinstance(one, ast.FunctionDef)}
+                self.assertEqual(methods & attributes, set(), node.name)
+
+
 class Words(unittest.TestCase):
     def test_builtins(self):
         for file, node in nodes():
