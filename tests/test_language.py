@@ -96,6 +96,18 @@ class Names(unittest.TestCase):
             if any(isinstance(one, (ast.Yield, ast.YieldFrom)) for one in ast.walk(node)):
                 self.assertEqual(names.count(node.name), 1, node.name)
 
+    def test_variables_have_names_of_their_own(self):
+        for file, tree in trees():
+            taken = {node.name for node in tree.body if isinstance(node, (ast.FunctionDef, ast.ClassDef))}
+            for node in tree.body:
+                if isinstance(node, ast.ImportFrom):
+                    taken |= {one.name for one in node.names}
+            for node in ast.walk(tree):
+                if isinstance(node, ast.arg):
+                    self.assertNotIn(node.arg, taken, file)
+                if isinstance(node, ast.Name) and isinstance(node.ctx, ast.Store):
+                    self.assertNotIn(node.id, taken, file)
+
     def test_no_method_has_the_name_of_an_attribute(self):
         attributes = {node.attr for _, node in nodes() if isinstance(node, ast.Attribute)
                       and isinstance(node.ctx, ast.Store)}
