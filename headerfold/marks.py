@@ -4,6 +4,8 @@ from headerfold.errors import BadBody
 
 MARKS = " !\"#$&'()*+,-./0123456789:;<=>?@ABCDEFGHIJKLMNOPQRSTUVWXYZ[\\]^_`abcdefghijklmnopqrstuvwxyz{|}~"
 LETTERS = "ABCDEFGHIJKLMNOPQRSTUVWXYZabcdefghijklmnopqrstuvwxyz"
+SMALL_LETTERS = "abcdefghijklmnopqrstuvwxyz"
+DIGITS = "0123456789"
 LETTERS_AND_DIGITS = "ABCDEFGHIJKLMNOPQRSTUVWXYZabcdefghijklmnopqrstuvwxyz0123456789"
 NOT_IN_ATOMS = " ()<>,;:@\""
 
