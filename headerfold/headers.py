@@ -119,7 +119,8 @@ class PeopleHeader(Header):
 
     def summary(self):
         """What the header is, line by line."""
-        return [*self._told(), f"people {len(list(mailboxes_of(self._content)))}"]
+        boxes = list(mailboxes_of(self._content))
+        return [*self._told(), f"people {len(boxes)}"]
 
     def _takes(self, content):
         return isinstance(content, tuple) and all([isinstance(entry, (Mailbox, Group)) for entry in content])

@@ -4,15 +4,17 @@ from headerfold.errors import BadHeader
 from headerfold.marks import is_label, is_raw, unfolded
 
 
-def name_in_front(marks):
-    """The name with which a string begins, in front of a colon; None if it begins otherwise."""
-    name, colon, _ = marks.partition(":")
+def name_of(text):
+    """The name of a header text; None if this is no header text."""
+    if not is_raw(text):
+        return None
+    name, colon, _ = text.partition(":")
     return name if colon != "" and is_label(name) else None
 
 
 def opened(text):
     """The name and the body of a header text, and the defects of unfolding."""
-    name = name_in_front(text) if is_raw(text) else None
+    name = name_of(text)
     if name is None:
         raise BadHeader(text)
     rest = text[len(name) + 1:].removesuffix("\n")
