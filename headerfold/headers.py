@@ -45,6 +45,11 @@ class Header:
         """Whether there are no defects."""
         return len(self._defects) == 0
 
+    def pieces(self, *, width=78):
+        """The pieces of the content; each kind has its own, the base class has none."""
+        _check_width(width)
+        return ()
+
     def folded(self, *, width=78):
         """The header text at this width."""
         return laid_out(self._name, self.pieces(width=width), width=width)

@@ -16,18 +16,14 @@ def is_width(thing):
 
 def lines_of(name, pieces, *, width=78):
     """The lines of a header, one after the other."""
-    _check_all(name, pieces, width)
-    line = name + ":"
-    for piece in pieces:
-        lines = _lines_with(line, piece, width)
-        yield from lines[:-1]
-        line = lines[-1]
-    yield line
+    lines = _all_lines(name, pieces, width)
+    yield from lines
 
 
 def laid_out(name, pieces, *, width=78):
     """The header text of a name and pieces."""
-    return "\n".join(lines_of(name, pieces, width=width))
+    # The string of a header comes to this, and nothing that gives a string walks a generator.
+    return "\n".join(_all_lines(name, pieces, width))
 
 
 def body_of(pieces, *, width=78):
@@ -36,6 +32,18 @@ def body_of(pieces, *, width=78):
     body, _ = unfolded(text[len("X:"):])
     # A space stands in front of the first piece, on the first line or on the second one.
     return body[1:]
+
+
+def _all_lines(name, pieces, width):
+    """The list of the lines of a header."""
+    _check_all(name, pieces, width)
+    closed = []
+    line = name + ":"
+    for piece in pieces:
+        found = _lines_with(line, piece, width)
+        closed.extend(found[:-1])
+        line = found[-1]
+    return [*closed, line]
 
 
 def _check_all(name, pieces, width):

@@ -6,6 +6,7 @@ import unittest
 from headerfold import headers
 from headerfold.errors import BadContent, BadHeader, BadLabel, BadWidth
 from headerfold.headers import Header, Laying, MomentHeader, PeopleHeader, PlainHeader, TypedHeader
+from headerfold.laying import laid_out
 from headerfold.moments import Moment
 from headerfold.people import Group, Mailbox
 from headerfold.texts import Text
@@ -236,6 +237,36 @@ class Writing(unittest.TestCase):
         self.assertEqual(str(TypedHeader("Kind", TYPED)), "Kind: m; k=x; l=y")
         self.assertIs(len(TypedHeader("K", Typed.of("m", k="x" * 200))).__class__, int)
         self.assertEqual(len(TypedHeader("K", Typed.of("m", k="x" * 200))), 4)
+
+
+    def test_string_and_length_of_all_kinds(self):
+        boxes = tuple(Mailbox(Text(f"Bob {number}"), ("b", "c")) for number in range(30))
+        contents = {"plain": [Text("word " * 50), Text.of((233, 32, 8364) * 60)],
+                    "people": [boxes, (Group(Text("g"), boxes, ("note",)), BOX)],
+                    "typed": [Typed.of("m", k="x" * 300, l="y z"), Typed("n" * 90).put("k", Text.of((8364,) * 90))],
+                    "moment": [Moment(1, 1, 1), Moment(9999, 12, 31, 23, 59, 59, zone=-899)]}
+        for kind, (header_class, some) in KINDS.items():
+            for content in some + contents[kind]:
+                for name in ("X", "N" * 20):
+                    header = header_class(name, content)
+                    text = header.folded(width=78)
+                    self.assertIs(str(header).__class__, str)
+                    self.assertEqual((str(header), str(header.folded())), (text, text))
+                    self.assertEqual(laid_out(name, header.pieces(width=78), width=78), text)
+                    self.assertEqual(len(header), text.count("\n") + 1)
+                    self.assertEqual((header_class.read(text), header.content), (header, content))
+        long = [KINDS[kind][0]("X", contents[kind][0]) for kind in ("plain", "people", "typed")]
+        self.assertEqual([len(header) for header in long], [4, 6, 6])
+
+    def test_string_and_length_of_what_was_read(self):
+        for header_class, text, string in (
+                (PlainHeader, "a:\n b\nc  =?x?=", "a: b c =?latin?s?ID0-eD89?="),
+                (PeopleHeader, "a: Bob <b@c, g:", "a: Bob <b@c>, g : ;"),
+                (TypedHeader, "a: m n;;K=1;k=2", "a: m; k=1"),
+                (MomentHeader, "a: 32 Jan 2000", "a: Mon, 31 Jan 2000 00:00:00 +0000")):
+            header = header_class.read(text)
+            self.assertFalse(header.is_clean)
+            self.assertEqual((str(header), header.folded(width=78), len(header)), (string, string, 1))
 
 
 class Changing(unittest.TestCase):

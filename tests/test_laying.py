@@ -220,6 +220,24 @@ class Facts(unittest.TestCase):
                 expected = body[3:] if pieces else ""
                 self.assertEqual(body_of(pieces, width=width), expected)
 
+    def test_every_width(self):
+        mixed = ("one", Text("two words"), "x" * 47, Text(), "y z", Text.of((233, 8364) * 9), "w" * 90, Text("c" * 50))
+        for pieces in (mixed, mixed[::-1], ()):
+            for width in range(50, 201):
+                lines = straight_lines("Name-9", pieces, width)
+                self.assertEqual(listed("Name-9", pieces, width=width), lines)
+                self.assertEqual("\n".join(lines_of("Name-9", pieces, width=width)), "\n".join(lines))
+                self.assertEqual(laid_out("Name-9", pieces, width=width), "\n".join(lines))
+                body = unfolded("\n".join(straight_lines("X", pieces, width)))[0]
+                self.assertEqual(body_of(pieces, width=width), body[3:])
+
+    def test_lines_one_after_the_other(self):
+        waiting = lines_of("X", ("a" * 74, "b", Text("c"), "d" * 60), width=50)
+        other = lines_of("Y", ("e",))
+        found = [next(waiting), next(other), next(waiting), next(waiting), next(waiting)]
+        self.assertEqual(found, ["X:", "Y: e", " " + "a" * 74, " b =?latin?h?c?=", " " + "d" * 60])
+        self.assertEqual((next(waiting, None), next(other, None)), (None, None))
+
     def test_fact_three(self):
         for pieces in sample_pieces():
             for width in (50, 78):
@@ -288,10 +306,16 @@ class Errors(unittest.TestCase):
             self.assertEqual(body_of(("a",), width=width), "a")
 
     def test_nothing_is_raised_before_the_first_request(self):
-        for name, pieces, width in ((None, (), 78), ("X", None, 78), ("X", ("",), 78), ("X", (), 49)):
+        for name, pieces, width, error, field, expected in (
+                (None, (), 78, BadLabel, "given", None), ("", None, 49, BadLabel, "given", ""),
+                ("X", None, 78, BadPiece, "place", None), ("X", ["a"], 49, BadPiece, "place", None),
+                ("X", ("",), 78, BadPiece, "place", 0), ("X", ("a", Text(), " "), 201, BadPiece, "place", 2),
+                ("X", (), 49, BadWidth, "given", 49), ("X", ("a",), True, BadWidth, "given", True)):
             waiting = lines_of(name, pieces, width=width)
-            with self.assertRaises((BadLabel, BadPiece, BadWidth)):
-                next(waiting)
+            self.assertTrue(inspect.isgenerator(waiting))
+            check_error(self, error, field, expected, next, waiting)
+            # The others raise the same at once.
+            check_error(self, error, field, expected, laid_out, name, pieces, width=width)
 
     def test_pieces_are_not_changed(self):
         pieces = ("a", Text("b" * 90), Text())
