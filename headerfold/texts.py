@@ -6,19 +6,13 @@ from headerfold.marks import is_between, is_body, is_code, is_plain_code, mark_o
 _SPACE = 32
 
 
-class Known:
-    """A tuple of what surely are codes; the package makes texts of it, in which they are not looked at again."""
-
-    def __init__(self, row):
-        self.row = row
-
-
 class Text:
     """A sequence of codes."""
 
-    # No other method sets the codes: what makes a text for an operator or a string changes no object.
     def __init__(self, marks=""):
-        self._codes = marks.row if isinstance(marks, Known) else _codes_of(marks)
+        if not is_body(marks):
+            raise BadText(marks)
+        self._codes = tuple([ord(mark) for mark in marks])
 
     @classmethod
     def of(cls, codes):
@@ -101,16 +95,12 @@ class Text:
         return "".join([_shown(code) for code in self._codes])
 
 
-def _codes_of(marks):
-    """The tuple of the codes of a string of marks."""
-    if not is_body(marks):
-        raise BadText(marks)
-    return tuple([ord(mark) for mark in marks])
-
-
 def _text_with(codes):
-    """The text of what surely is a tuple of codes."""
-    return Text(Known(codes))
+    """The text of what surely is a tuple of codes, which are not looked at again."""
+    # The constructor takes marks alone. Nothing else knows the new text yet, so its codes may be set here.
+    made = Text()
+    made._codes = codes
+    return made
 
 
 def _shown(code):

@@ -1,7 +1,8 @@
 """The rules L5 and L28 of LANGUAGE.md for operators, properties, strings, lengths and equality.
 
 What runs behind a sign changes nothing, and calls nothing that it is handed or holds; neither does what it calls,
-at any depth. Calls are followed by names: a method by its name in any class of the package.
+at any depth. Calls are followed by names: a method by its name in any class of the package. What a function makes
+itself it may change (L5): of an object of a class, the attributes that it sets in the rows right behind the making.
 """
 
 import ast
@@ -16,6 +17,8 @@ CHANGING = set("""add append appendleft clear discard extend insert pop popleft 
     update""".split())
 # In-place signs may change their object; the package has none of them, nor __setitem__.
 NO_SIGNS = ("__init__", "__enter__", "__exit__", "__call__", "__iter__")
+# These set no attribute of an object that they made themselves, either (L28); what they call may do so.
+STRICT = ("__eq__", "__repr__", "__str__", "__len__")
 MAKERS = ("list", "dict", "set", "sorted")
 LAZY = (ast.Yield, ast.YieldFrom, ast.GeneratorExp, ast.Lambda, ast.Await)
 BARRED = (ast.Delete, ast.Global, ast.Nonlocal, ast.With, ast.AugAssign, ast.NamedExpr, ast.Import, ast.ImportFrom)
@@ -101,6 +104,7 @@ class Package:
 
     def faults_of(self, file, node):
         fresh = fresh_names(node)
+        first = [] if node.name in STRICT else first_settings(node, self.classes)
         for one in ast.walk(node):
             if isinstance(one, LAZY + BARRED):
                 yield one.lineno, one.__class__.__name__
@@ -108,7 +112,7 @@ class Package:
                 yield one.lineno, "a nested function"
             if isinstance(one, ast.Attribute) and not isinstance(one.ctx, ast.Load):
                 is_own = node.name == "__init__" and ast.unparse(one.value) == "self"
-                if not is_own:
+                if not is_own and one not in first:
                     yield one.lineno, "an attribute is set"
             if isinstance(one, ast.Subscript) and not isinstance(one.ctx, ast.Load):
                 if not (isinstance(one.value, ast.Name) and one.value.id in fresh):
@@ -150,6 +154,30 @@ def fresh_names(node):
                 made.append(one.targets[0].id)
     parameters = {one.arg for one in ast.walk(node) if isinstance(one, ast.arg)}
     return {name for name in made if stored.count(name) == made.count(name)} - parameters
+
+
+def first_settings(node, classes):
+    """The attributes of a new object that a function sets in the rows right behind the one that makes it.
+
+    Nothing else holds the object there; what is set later, or in a row that reads the object, is not among them.
+    """
+    found = []
+    new = None
+    for row in node.body:
+        target = row.targets[0] if isinstance(row, ast.Assign) and len(row.targets) == 1 else None
+        if isinstance(target, ast.Attribute) and ast.unparse(target.value) == new and new not in words_in(row.value):
+            found.append(target)
+        elif isinstance(target, ast.Name) and isinstance(row.value, ast.Call) and (
+                ast.unparse(row.value.func) in classes):
+            new = target.id
+        else:
+            new = None
+    return found
+
+
+def words_in(node):
+    """The names that an expression reads."""
+    return [one.id for one in ast.walk(node) if isinstance(one, ast.Name)]
 
 
 def whole_package():
@@ -224,7 +252,10 @@ class TheCheckItself(unittest.TestCase):
     def test_changes_and_calls_of_what_is_held(self):
         for row in ("self.n = 3", "self.n += 1", "self.xs[0] = 3", "self.xs.append(3)", "del self.xs[0]",
                     "xs[0] = 3", "xs.append(3)", "ys = self.xs; ys.append(3)", "ys = []; ys = xs; ys[0] = 3",
-                    "made = Box(); made.n = 3", "xs(3)", "self.step(3)", "self.xs[0](3)", "return (x for x in xs)"):
+                    "made = self.made; made.n = 3", "made = xs; made.n = 3", "made = Box(); xs.n = 3",
+                    "made = Box(); ys = [made]; made.n = 3", "made = Box(); made.n = made",
+                    "made = list(xs); made.n = 3", "made = Box(); made = xs; made.n = 3", "made = Box(); made.n += 3",
+                    "xs(3)", "self.step(3)", "self.xs[0](3)", "return (x for x in xs)"):
             source = f"""
                 class Box:
                     def told(self, xs):
@@ -234,6 +265,32 @@ class TheCheckItself(unittest.TestCase):
                         return self.told([])
                 """
             self.assertGreaterEqual(len(self.faults(source)), 1, row)
+
+    def test_what_a_function_makes_itself(self):
+        for rows, many in (
+                ("made = Box(); made.n = 3", 0), ("made = Box(); made.n = 3; made.m = xs; return made", 0),
+                ("made = Box(); self.told(made); made.n = 3", 1),
+                ("made = Box(); made.n = 3; xs = [made]; made.m = 3", 1)):
+            source = f"""
+                class Box:
+                    def told(self, xs):
+                        {rows}
+                    def __add__(self, other):
+                        return self.told([])
+                """
+            self.assertEqual(len(self.faults(source)), many, rows)
+
+    def test_strings_lengths_and_equalities_set_nothing_themselves(self):
+        for name, many in (("__str__", 1), ("__repr__", 1), ("__len__", 1), ("__eq__", 1), ("__add__", 0)):
+            source = f"""
+                class Box:
+                    def {name}(self):
+                        made = Box()
+                        made.n = 3
+                        return made.told()
+                """
+            found = [row for row in self.faults(source) if row.endswith("an attribute is set")]
+            self.assertEqual(len(found), many, name)
 
     def test_what_may_be(self):
         source = """

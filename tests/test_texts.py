@@ -1,13 +1,18 @@
 """headerfold.texts: texts [3], and the class Text of the interface."""
 
+import ast
+import importlib
 import inspect
+import pkgutil
 import unittest
 
+import headerfold
 from headerfold import texts
 from headerfold.errors import BadCode, BadNumber, BadText, NoCode
 from headerfold.marks import MARKS, is_code
 from headerfold.texts import Text
 from tests.support import check_error, wrong_objects
+from tests.test_language import nodes
 
 MIXED = (99, 97, 102, 233, 32, 8364)
 
@@ -71,6 +76,60 @@ class FromMarks(unittest.TestCase):
         for thing in wrong_objects() + strings + [(), (97,), 97, Text(), Text("a")]:
             check_error(self, BadText, "given", thing, Text, thing)
             check_error(self, BadText, "given", thing, Text, marks=thing)
+
+
+class Willing:
+    """An own object that has every attribute."""
+
+    def __init__(self, worth):
+        self.worth = worth
+
+    def __getattr__(self, name):
+        return self.worth
+
+
+class NoBodies(unittest.TestCase):
+    """The constructor takes strings of marks, and no object of another class, whatever that class is."""
+
+    ROWS = ((), (65,), (97, 98), (5, "x"), [65], "ab", None)
+
+    def refused(self, thing):
+        check_error(self, BadText, "given", thing, Text, thing)
+        check_error(self, BadText, "given", thing, Text, marks=thing)
+
+    def classes_of_the_package(self):
+        files = [name for _, name, _ in pkgutil.iter_modules(headerfold.__path__)]
+        self.assertIn("texts", files)
+        for file in files:
+            module = importlib.import_module("headerfold." + file)
+            yield from [found for found in vars(module).values() if inspect.isclass(found)]
+
+    def attributes_of_the_package(self):
+        return sorted({node.attr for _, node in nodes() if isinstance(node, ast.Attribute)})
+
+    def test_objects_of_every_class_of_the_package(self):
+        names = self.attributes_of_the_package()
+        self.assertIn("_codes", names)
+        for found in self.classes_of_the_package():
+            self.refused(found)
+            for row in self.ROWS:
+                # No constructor runs: this object has every attribute that the package knows, with this value.
+                thing = found.__new__(found)
+                vars(thing).update({name: row for name in names})
+                self.refused(thing)
+
+    def test_objects_of_other_classes(self):
+        for row in self.ROWS:
+            self.refused(Willing(row))
+            for name in ("Known", "Text", "str", "Codes"):
+                self.refused(type(name, (), {"row": row, "codes": row, "_codes": row, "marks": row})())
+        for thing in (b"ab", bytearray(b"ab"), ["a", "b"], ("a", "b"), {"a": "b"}, iter("ab"), Willing, "ab".join):
+            self.refused(thing)
+
+    def test_texts_and_objects_below_them(self):
+        for text in (Text(), Text("ab"), text_of(233), type("Below", (Text,), {})("ab"),
+                     Text("a") + Text("b"), Text("a b").part(0, 1), Text("a b").cut()[0], Text.joined((Text("a"),))):
+            self.refused(text)
 
 
 class OfCodes(unittest.TestCase):
